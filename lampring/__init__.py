@@ -1,0 +1,1 @@
+"""A lantern maker's shop."""
