@@ -19,9 +19,15 @@ def make_lantern(shop, girth):
     cutting = best_cutting(shop.strips, bands)
     if len(cutting) == 0:
         return [-7]
-    shop.strips = strips_after(shop.strips, bands, cutting)
+    cut_bands(shop, bands, cutting)
     number = stand_lantern(shop, girth, ring)
     return [number, len(ring)] + ring + cutting
+
+
+def cut_bands(shop, bands, cutting):
+    left = strips_after(shop.strips, bands, cutting)
+    shop.scrap += sum(shop.strips) - sum(bands) - sum(left)
+    shop.strips = left
 
 
 def stand_lantern(shop, girth, ring):

@@ -25,7 +25,11 @@ class Shop:
         self.widths = [sort[0] for sort in sorts]
         self.painted = [sort[1] for sort in sorts]
         self.stock = [0 for sort in sorts]
+        self.panes_gone = [0 for sort in sorts]
         self.strips = []
+        self.brass_come = 0
+        self.scrap = 0
+        self.brass_gone = 0
         self.lanterns = {}
         # Numbers of lanterns are never used again, so how many stand doesn't tell the next one.
         self.made = 0
@@ -60,4 +64,5 @@ def add_strips(shop, n):
         return [-1]
     for strip in range(n):
         shop.strips.append(shop.new)
+    shop.brass_come += n * shop.new
     return [len(shop.strips)]
